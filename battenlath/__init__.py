@@ -1,0 +1,1 @@
+"""Battens: the line that bends least, exactly."""
