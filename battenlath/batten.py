@@ -5,6 +5,8 @@ only when it is answered, so that no step on the way needs a division with a res
 What is solved for is a sixth of the bend at each nail, since the cubics are made of sixths.
 """
 
+from battenlath.crest import crest_ceiling, has_crest
+
 
 def product_of(numbers):
     """All of them multiplied."""
@@ -109,3 +111,28 @@ class Batten:
         if what == 1:
             return ((3 * d * t + 2 * c * q) * t + b * q * q, scale * q * q)
         return (6 * d * t + 2 * c * q, scale * q)
+
+    def bending(self):
+        """The integral of the bend times itself along the line: above and below."""
+        above = 0
+        for i, gap in enumerate(self.gaps):
+            first = self.sixths[i]
+            second = self.sixths[i + 1]
+            # The bend goes evenly from 6 first to 6 second: a third of 36 is left.
+            above = above + 12 * gap * (first * first + first * second + second * second)
+        return (above, self.under * self.under)
+
+    def turns(self):
+        """How often the bend changes from above 0 to below or back."""
+        # Between two nails the bend goes evenly, so its signs at the nails tell all.
+        bent = [sixth for sixth in self.sixths if sixth != 0]
+        return len([i for i in range(1, len(bent)) if (bent[i - 1] > 0) != (bent[i] > 0)])
+
+    def top(self):
+        """The least whole number that the batten exceeds nowhere."""
+        found = max(self.ys)
+        for i, gap in enumerate(self.gaps):
+            cubic = self.cubic(i)
+            if has_crest(cubic, gap):
+                found = max(found, crest_ceiling(cubic))
+        return found

@@ -9,6 +9,9 @@ MAKE = 1
 AT = 2
 NEAR = 3
 PIECE = 4
+BENDING = 5
+TURNS = 6
+TOP = 7
 
 NO_TABLE = -5
 WRONG_NUMBER = -1
@@ -84,6 +87,28 @@ class Desk:
             answer.extend(lowest(coefficient, cubic[4]))
         return answer
 
+    def bending(self, way, k):
+        """The integral of the bend times itself along the line."""
+        refused = self.refusal(way, k, True)
+        if refused != 0:
+            return [refused]
+        found = self.batten(way, k).bending()
+        return [0] + lowest(found[0], found[1])
+
+    def turns(self, way, k):
+        """How often the bend changes its sign along the line."""
+        refused = self.refusal(way, k, True)
+        if refused != 0:
+            return [refused]
+        return [0, self.batten(way, k).turns()]
+
+    def top(self, way, k):
+        """The least whole number that the batten exceeds nowhere."""
+        refused = self.refusal(way, k, True)
+        if refused != 0:
+            return [refused]
+        return [0, self.batten(way, k).top()]
+
 
 def answer_line_call(desk, call, reader):
     """Answers a call on a line: all of them begin with way and k."""
@@ -98,6 +123,12 @@ def answer_line_call(desk, call, reader):
         return desk.near(way, k, reader.number())
     if call == PIECE:
         return desk.piece(way, k, reader.number())
+    if call == BENDING:
+        return desk.bending(way, k)
+    if call == TURNS:
+        return desk.turns(way, k)
+    if call == TOP:
+        return desk.top(way, k)
     raise NoSuchCall("there is no such call")
 
 

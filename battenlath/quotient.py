@@ -16,6 +16,11 @@ def lowest(above, below):
     return [above // shared, below // shared]
 
 
+def ceiling(above, below):
+    """The least whole number that is not below the quotient."""
+    return -(-above // below)
+
+
 def nearest(above, below):
     """The whole number nearest to the quotient, of two as near the even one."""
     floor = above // below

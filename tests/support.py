@@ -25,6 +25,18 @@ def piece(way, k, i):
     return [4, way, k, i]
 
 
+def bending(way, k):
+    return [5, way, k]
+
+
+def turns(way, k):
+    return [6, way, k]
+
+
+def top(way, k):
+    return [7, way, k]
+
+
 def ask(*calls):
     """The answers to these calls in one list, each as a list of its own."""
     flat = []
@@ -44,6 +56,23 @@ def ask(*calls):
 def one_line(xs, ys):
     """A make whose level 0 is the line through these nails."""
     return make(xs, [0, 1], ys + [0] * len(xs))
+
+
+def of_line(xs, ys):
+    """What bending, turns and top answer of the line through these nails."""
+    return ask(one_line(xs, ys), bending(0, 0), turns(0, 0), top(0, 0))[1:]
+
+
+def nails_bent(xs, sixths, slope=0):
+    """The ys of nails at xs, the least of them 0, so that the batten's bend at nail i is 6 sixths[i]."""
+    ys = [0]
+    for i in range(1, len(xs)):
+        gap = xs[i] - xs[i - 1]
+        ys.append(ys[-1] + slope * gap)
+        if i + 1 < len(xs):
+            wider = xs[i + 1] - xs[i]
+            slope += gap * sixths[i - 1] + 2 * (gap + wider) * sixths[i] + wider * sixths[i + 1]
+    return [y - min(ys) for y in ys]
 
 
 def quotients(answer):
@@ -92,6 +121,23 @@ def nails(table, way, k):
     if way == 0:
         return places, [breadths[k * len(places) + s] for s in range(len(places))]
     return heights, [breadths[level * len(places) + k] for level in range(len(heights))]
+
+
+def some_lines(table):
+    """The first, a middle and the last line of each way, as way, k."""
+    for way in (0, 1):
+        last = len(table[1 - way]) - 1
+        for k in sorted({0, last // 2, last}):
+            yield way, k
+
+
+def lines_by_definition(seed, sizes, size):
+    """Some lines of a table of each of these sizes: table, way, k, xs, ys, cubics."""
+    for number, (stations, levels) in enumerate(sizes):
+        table = some_table(seed + number, stations, levels, size)
+        for way, k in some_lines(table):
+            xs, ys = nails(table, way, k)
+            yield table, way, k, xs, ys, batten_by_definition(xs, ys)
 
 
 def solve(rows):

@@ -5,7 +5,7 @@ from fractions import Fraction
 
 from tests.support import (
     HIGHEST, LARGEST, LOWEST, ask, at, batten_by_definition, make, near, nails, one_line, piece, quotients,
-    some_table, told, told_at,
+    some_lines, some_table, told, told_at,
 )
 
 SIZES = ((2, 2), (2, 16), (24, 2), (3, 3), (3, 4), (5, 7), (10, 6), (24, 16))
@@ -77,10 +77,8 @@ class ByDefinition(unittest.TestCase):
             self.assertEqual(answer, [0, round(told_at(xs, cubics, x, 0)[0])])
 
     def check_table(self, table):
-        for way in (0, 1):
-            last = len(table[1 - way]) - 1
-            for k in sorted({0, last // 2, last}):
-                self.check_line(table, way, k)
+        for way, k in some_lines(table):
+            self.check_line(table, way, k)
 
     def test_small_measures(self):
         for seed, (stations, levels) in enumerate(SIZES):
